@@ -486,6 +486,21 @@ func TestLongLists(t *testing.T) {
 	}
 }
 
+// TestLongRowAhead: a row of which only the last word has a bit is not gone through again for each short one.
+func TestLongRowAhead(t *testing.T) {
+	const size = 1 << 19
+	long := make([]uint64, size)
+	long[size-1] = 1
+	l := [][]uint64{long}
+	for i := range size {
+		l = append(l, []uint64{uint64(i)})
+	}
+	basis := echelon.Basis(l)
+	if len(basis) != 20 || !words.Same(basis[19], long) {
+		t.Errorf("Basis of a long row and many short ones: %d", len(basis))
+	}
+}
+
 // handed is what a call may be given, with words and rows behind the ends, to tell whether a call touches or keeps them.
 type handed struct {
 	list [][]uint64
